@@ -1,0 +1,1 @@
+"""Ringland: shapes by their rings, joined, shared and taken from one another."""
