@@ -32,6 +32,13 @@ def is_spot(thing):
     return (x % 2 == 1 and y % 4 == 2) or (x % 4 == 2 and y % 2 == 1)
 
 
+def need_spot(thing):
+    """Refuse with BadSpot what is no spot."""
+    if not is_spot(thing):
+        # The message does not show what came: it may be anything, and showing it may fail.
+        raise BadSpot("a spot is a pair of numbers from 0 to 12, one odd, the other one leaving 2 by 4")
+
+
 def all_spots():
     """List all spots, rising by x, then y."""
     return [(x, y) for x in range(MOST + 1) for y in range(MOST + 1) if is_spot((x, y))]
@@ -44,9 +51,7 @@ def middle(number):
 
 def cell_of(spot):
     """List the corners of the spot's cell, with the cell to the left, the middle of its square last."""
-    if not is_spot(spot):
-        # The message does not show what came: it may be anything, and showing it may fail.
-        raise BadSpot("a spot is a pair of numbers from 0 to 12, one odd, the other one leaving 2 by 4")
+    need_spot(spot)
     x, y = spot
     middle_x = middle(x)
     middle_y = middle(y)

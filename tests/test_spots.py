@@ -2,6 +2,7 @@
 
 import unittest
 
+from helper import NO_PLACES, WRONG_SPOTS, sides_of, told
 from ringland import spots
 from ringland.errors import BadRings, BadSpot, ShapeError
 from ringland.spots import MOST, all_spots, cell_of, is_place
@@ -28,38 +29,10 @@ CELLS = {
     (11, 10): [(12, 8), (12, 12), (10, 10)],
 }
 
-WRONG = [
-    # numbers below 0, beyond 12 and far out, that would be a spot's but for that
-    (-1, 2), (2, -1), (1, -2), (-2, 1), (-3, -2), (13, 2), (2, 13), (1, 14), (14, 1), (13, 14),
-    (1001, 1002), (1002, -1001), (10 ** 30 + 1, 2), (2, -(10 ** 30) - 1), (1, 2 * 10 ** 5000 + 2),
-    # True and False for a number
-    (True, 2), (2, True), (False, 2), (2, False), (True, 6), (10, True), (True, False), (True, True),
-    # something else for a number
-    (1.0, 2), (1, 2.0), (1.5, 2), ("1", 2), (1, "2"), (None, 2), (1, None), ((1,), 2), ([1], 2), (1 + 0j, 2),
-    # something else for a pair
-    [1, 2], [6, 5], {1: 2}, {1, 2}, range(1, 3), b"\x01\x02", "12", ((1, 2),), ((1, 2), (2, 1)), [(1, 2)],
-    # one number or three in place of two, or none
-    (), (1,), (2,), (1, 2, 3), (1, 2, 2), (2, 1, 2), (1, 2, 0),
-    # something else altogether
-    None, True, False, 0, 1, 2, 12, -1, 1.5, "", "a text", "(1, 2)", [], {}, set(), object(), int, all_spots,
-]
-
-
-def told(wrong):
-    """Name a wrong value briefly; numbers of thousands of digits cannot be shown."""
-    try:
-        return repr(wrong)
-    except ValueError:
-        return "a long number"
-
 
 def turn(start, end, place):
     """Above 0 where place lies to the left of the way from start to end."""
     return (end[0] - start[0]) * (place[1] - start[1]) - (end[1] - start[1]) * (place[0] - start[0])
-
-
-def sides_of(corners):
-    return list(zip(corners, corners[1:] + corners[:1]))
 
 
 class PlaceTest(unittest.TestCase):
@@ -70,7 +43,7 @@ class PlaceTest(unittest.TestCase):
                     self.assertIs(is_place((x, y)), x in range(13) and y in range(13))
 
     def test_whatever_is_no_pair_of_whole_numbers_is_no_place(self):
-        for wrong in WRONG:
+        for wrong in NO_PLACES:
             with self.subTest(wrong=told(wrong)):
                 self.assertIs(is_place(wrong), False)
 
@@ -208,7 +181,7 @@ class RefusalTest(unittest.TestCase):
                     self.refused((x, y))
 
     def test_whatever_is_no_spot_is_refused(self):
-        for wrong in WRONG:
+        for wrong in WRONG_SPOTS:
             self.refused(wrong)
 
     def test_what_is_deep_or_holds_itself_is_refused(self):
